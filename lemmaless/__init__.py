@@ -1,0 +1,1 @@
+"""Lemmaless: claims shown line by line, and their lemmas taken out."""
