@@ -32,11 +32,17 @@ def alike(one, other):
     """Whether the same formulas stand left in both claims, and the same ones right."""
     refuse_no_claim(one)
     refuse_no_claim(other)
-    return _same_formulas(one[0], other[0]) and _same_formulas(one[1], other[1])
+    return claim_spelled(one) == claim_spelled(other)
 
 
-def _same_formulas(some, others):
-    return {spelled(f) for f in some} == {spelled(f) for f in others}
+def claim_spelled(claim):
+    """A text that this claim and those alike to it have, and no others."""
+    left, right = claim
+    return f"{_side_spelled(left)}|{_side_spelled(right)}"
+
+
+def _side_spelled(side):
+    return ";".join(sorted({spelled(f) for f in side}))
 
 
 def holds(claim, world):
@@ -44,3 +50,27 @@ def holds(claim, world):
     refuse_no_claim(claim)
     left, right = claim
     return not all([truth(f, world) for f in left]) or any([truth(f, world) for f in right])
+
+
+def stands_in(one, other):
+    """Whether what stands left in one claim stands left in the other, and right likewise."""
+    return _all_stand_in(one[0], other[0]) and _all_stand_in(one[1], other[1])
+
+
+def _all_stand_in(some, side):
+    return all([f in side for f in some])
+
+
+def told_once(claim):
+    """A new claim alike to this one, each formula once on a side."""
+    left, right = claim
+    return each_once(left), each_once(right)
+
+
+def each_once(side):
+    """A new list of the formulas of side, each once, where it stands first."""
+    told = []
+    for f in side:
+        if f not in told:
+            told.append(f)
+    return told

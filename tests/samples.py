@@ -1,4 +1,4 @@
-"""Formulas, things that are none, and worlds, for the tests."""
+"""Formulas, claims, what is no formula, claim or rule, and worlds, for the tests."""
 
 from itertools import product
 
@@ -6,6 +6,10 @@ A = ("sign", 0)
 B = ("sign", 1)
 C = ("sign", 2)
 D = ("sign", 99)
+NOT_A = ("not", A)
+AND = ("and", A, B)
+OR = ("or", A, B)
+THEN = ("then", A, B)
 
 ONE_WORDS = ("not",)
 TWO_WORDS = ("and", "or", "then")
@@ -95,4 +99,90 @@ NO_FORMULAS = [
     ("then", 3, A), ("then", A, None),
     # the word of one with the inside of another
     ("sign", A, B), ("not", 5), ("and", 5), ("then", 7),
+]
+
+
+def nots(words):
+    """A formula of so many words, at most twelve."""
+    f = A
+    for _ in range(words - 1):
+        f = ("not", f)
+    return f
+
+
+def of_words(words):
+    """A list of formulas with so many words in all, as few formulas as can be."""
+    rows = [nots(12) for _ in range(words // 12)]
+    if words % 12:
+        rows.append(nots(words % 12))
+    return rows
+
+
+NO_CLAIMS = [
+    # no tuple
+    None, True, False, 0, 2, "", "ab", [], {}, set(), object(), 1.5,
+    [[], []], [[A], [B]], {0: [A], 1: [B]}, {"left": [], "right": []},
+    # a tuple of one, of three, or empty
+    (), ([],), ([A],), ([], [], []), ([A], [B], [C]), ([A], [B], None),
+    # a formula, and a line, are no claims
+    A, ("not", A), ("and", A, B), (([A], [A]), ("same", A), []),
+    # a side that is no list
+    ((), []), ([], ()), ((), ()), ((A,), [B]), ([A], (B,)), ((A,), (B,)), (A, [B]), ([A], B),
+    (None, []), ([], None), ("", []), ([], ""), ("ab", "cd"), ({}, []), ([], {}), (0, []), ([], 0),
+    (True, []), ([], False), ({A: 1}, []), ([], {A}),
+    # formulas that stand one list deeper
+    ([[A]], []), ([], [[B]]), ([[]], []), ([], [[]]),
+]
+
+
+def claims_around(thing):
+    """Claims, had they not thing at one of the places of their sides."""
+    rows = [([thing], []), ([], [thing]), ([thing], [A]), ([A], [thing])]
+    for at in range(3):
+        side = [A, B]
+        side.insert(at, thing)
+        rows.append((side, [C]))
+        rows.append(([C], side))
+        rows.append((side, []))
+        rows.append(([], side))
+    return rows
+
+
+def too_long():
+    """Claims but for their words, of which there are more than sixty."""
+    rows = [
+        ([A] * 61, []), ([], [A] * 61), ([A] * 30, [A] * 31), ([A] * 31, [B] * 30),
+        (of_words(61), []), ([], of_words(61)), (of_words(60), [A]), ([A], of_words(60)),
+        ([("sign", n) for n in range(61)], []), ([], [("sign", n) for n in range(61)]),
+        ([full(6)], []), ([], [full(12)]), ([full(5)], [full(5)]), ([full(5), full(5)], []),
+        ([A] * 1000, [B] * 1000),
+    ]
+    for word in ("and", "or", "then"):
+        # Three words each, so sixty in twenty, and three more.
+        rows.append(([(word, A, B)] * 21, []))
+        rows.append(([(word, A, B)] * 10, [(word, A, B)] * 10 + [C]))
+    return rows
+
+
+# No rules, whatever the claim.
+NO_RULES = [
+    # no tuple
+    None, True, False, 0, 1, "", "same", "left", "lemma", [], {}, set(), object(), 1.5,
+    ["same", A], ["left", AND], ["right", AND], ["more", ([A], [A])], ["lemma", A], {"same": A},
+    # too short, too long, or empty
+    (), ("same",), ("left",), ("right",), ("more",), ("lemma",),
+    ("same", A, A), ("same", A, B), ("same", A, None), ("left", AND, A), ("left", AND, None),
+    ("right", AND, A), ("right", AND, []), ("lemma", A, B), ("lemma", A, None),
+    ("more", ([A], [A]), []), ("more", [A], [A]), ("more", ([A], [A]), ([A], [A])), (A, AND, A),
+    # another word
+    ("", A), ("Same", A), ("same ", A), ("sam", A), ("LEFT", AND), ("lefts", AND), ("lef", AND),
+    ("Right", AND), ("righ", AND), ("cut", A), ("lemmas", A), ("Lemma", A), ("lemm", A),
+    ("most", ([A], [A])), ("less", ([A], [A])), ("More", ([A], [A])), ("mor", ([A], [A])),
+    ("not", A), ("sign", 0), ("and", AND), ("axiom", A), ("chain", A), ("claim", ([A], [A])),
+    # a word that is no text
+    (None, A), (True, A), (0, A), (1, AND), (b"same", A), (b"left", AND), (A, A), (("same",), A),
+    (["same"], A), ({"same"}, A), (1.5, ([A], [A])), ({}, A),
+    # a claim in place of a formula, and a formula in place of a claim
+    ("same", ([A], [A])), ("left", ([AND], [AND])), ("right", ([AND], [AND])),
+    ("lemma", ([A], [A])), ("lemma", ([], [])), ("more", A), ("more", AND), ("more", NOT_A),
 ]

@@ -5,70 +5,9 @@ from itertools import permutations, product
 from lemmaless.claims import alike, holds, is_claim
 from lemmaless.errors import BadClaim
 from tests.samples import (
-    A, B, C, D, NO_FORMULAS, chains_around, full, small_formulas, worlds,
+    A, B, C, D, NO_CLAIMS, NO_FORMULAS, chains_around, claims_around, full, nots, of_words,
+    small_formulas, too_long, worlds,
 )
-
-
-def nots(words):
-    """A formula of so many words, at most twelve."""
-    f = A
-    for _ in range(words - 1):
-        f = ("not", f)
-    return f
-
-
-def of_words(words):
-    """A list of formulas with so many words in all, as few formulas as can be."""
-    rows = [nots(12) for _ in range(words // 12)]
-    if words % 12:
-        rows.append(nots(words % 12))
-    return rows
-
-
-NO_CLAIMS = [
-    # no tuple
-    None, True, False, 0, 2, "", "ab", [], {}, set(), object(), 1.5,
-    [[], []], [[A], [B]], {0: [A], 1: [B]}, {"left": [], "right": []},
-    # a tuple of one, of three, or empty
-    (), ([],), ([A],), ([], [], []), ([A], [B], [C]), ([A], [B], None),
-    # a formula, and a line, are no claims
-    A, ("not", A), ("and", A, B), (([A], [A]), ("same", A), []),
-    # a side that is no list
-    ((), []), ([], ()), ((), ()), ((A,), [B]), ([A], (B,)), ((A,), (B,)), (A, [B]), ([A], B),
-    (None, []), ([], None), ("", []), ([], ""), ("ab", "cd"), ({}, []), ([], {}), (0, []), ([], 0),
-    (True, []), ([], False), ({A: 1}, []), ([], {A}),
-    # formulas that stand one list deeper
-    ([[A]], []), ([], [[B]]), ([[]], []), ([], [[]]),
-]
-
-
-def claims_around(thing):
-    """Claims, had they not thing at one of the places of their sides."""
-    rows = [([thing], []), ([], [thing]), ([thing], [A]), ([A], [thing])]
-    for at in range(3):
-        side = [A, B]
-        side.insert(at, thing)
-        rows.append((side, [C]))
-        rows.append(([C], side))
-        rows.append((side, []))
-        rows.append(([], side))
-    return rows
-
-
-def too_long():
-    """Claims but for their words, of which there are more than sixty."""
-    rows = [
-        ([A] * 61, []), ([], [A] * 61), ([A] * 30, [A] * 31), ([A] * 31, [B] * 30),
-        (of_words(61), []), ([], of_words(61)), (of_words(60), [A]), ([A], of_words(60)),
-        ([("sign", n) for n in range(61)], []), ([], [("sign", n) for n in range(61)]),
-        ([full(6)], []), ([], [full(12)]), ([full(5)], [full(5)]), ([full(5), full(5)], []),
-        ([A] * 1000, [B] * 1000),
-    ]
-    for word in ("and", "or", "then"):
-        # Three words each, so sixty in twenty, and three more.
-        rows.append(([(word, A, B)] * 21, []))
-        rows.append(([(word, A, B)] * 10, [(word, A, B)] * 10 + [C]))
-    return rows
 
 
 class IsClaimTest(unittest.TestCase):

@@ -4,36 +4,13 @@ from itertools import product
 
 from lemmaless.errors import BadFormula
 from lemmaless.formulas import MOST_DEEP, MOST_SIGN, MOST_WORDS, is_formula, parts, truth
+from tests.plain import plain_parts, plain_truth
 from tests.samples import (
     A, B, C, D, NO_FORMULAS, ONE_WORDS, TWO_WORDS, chains_around, full, small_formulas, worlds,
     wrapped_once,
 )
 
 CASES = list(product([False, True], repeat=2))
-
-
-def plain_parts(f):
-    """The parts of f, worked out by the words of the document."""
-    rows = [f]
-    if f[0] != "sign":
-        for inner in f[1:]:
-            rows = rows + plain_parts(inner)
-    return [row for at, row in enumerate(rows) if row not in rows[:at]]
-
-
-def plain_truth(f, world):
-    """Whether f is true in world, worked out by a table for each word."""
-    if f[0] == "sign":
-        return f[1] in world
-    told = tuple(plain_truth(inner, world) for inner in f[1:])
-    if f[0] == "not":
-        return told == (False,)
-    true_cases = {
-        "and": [(True, True)],
-        "or": [(True, True), (True, False), (False, True)],
-        "then": [(False, False), (False, True), (True, True)],
-    }
-    return told in true_cases[f[0]]
 
 
 class NumbersTest(unittest.TestCase):

@@ -15,6 +15,23 @@ PLAIN_BUILTINS = {
     "KeyError",
 }
 
+# What the interface lists for each file, and the arguments of its functions.
+LISTED = {
+    "errors.py": ["LineError", "BadFormula", "BadClaim", "BadChain", "NoLemma"],
+    "formulas.py": ["is_formula", "parts", "truth"],
+    "claims.py": ["is_claim", "alike", "holds"],
+    "rules.py": ["wanted"],
+    "chains.py": ["wrong_line", "lemma_lines"],
+    "search.py": ["decided"],
+    "taking.py": ["step", "taken_out"],
+}
+ARGUMENTS = {
+    "is_formula": ["thing"], "parts": ["f"], "truth": ["f", "world"], "is_claim": ["thing"],
+    "alike": ["one", "other"], "holds": ["claim", "world"], "wanted": ["claim", "rule"],
+    "wrong_line": ["lines"], "lemma_lines": ["chain"], "decided": ["claim"], "step": ["chain"],
+    "taken_out": ["chain"],
+}
+
 
 def told_trees():
     return [(file, ast.parse(file.read_text(encoding="utf-8"))) for file in FILES]
@@ -23,8 +40,12 @@ def told_trees():
 class PackageTest(unittest.TestCase):
     def test_there_are_files(self):
         names = [file.name for file in FILES]
-        for name in ("__init__.py", "errors.py", "formulas.py", "claims.py"):
+        for name in ("__init__.py", *LISTED):
             self.assertIn(name, names)
+
+    def test_there_is_nothing_else_in_the_folder(self):
+        for path in FOLDER.iterdir():
+            self.assertTrue(path.suffix == ".py" or path.name == "__pycache__", path)
 
     def test_imports_only_from_the_package(self):
         for file, tree in told_trees():
@@ -52,19 +73,24 @@ class PackageTest(unittest.TestCase):
                     self.assertLessEqual(node.end_lineno - node.lineno + 1, 40, (file, node.name))
 
     def test_each_name_is_defined_in_its_file(self):
-        listed = {
-            "errors.py": ["LineError", "BadFormula", "BadClaim", "BadChain", "NoLemma"],
-            "formulas.py": ["is_formula", "parts", "truth"],
-            "claims.py": ["is_claim", "alike", "holds"],
-        }
         trees = {file.name: tree for file, tree in told_trees()}
-        for name, wanted in listed.items():
+        for name, words in LISTED.items():
             defined = [
                 node.name for node in trees[name].body
                 if isinstance(node, (ast.FunctionDef, ast.ClassDef))
             ]
-            for word in wanted:
+            for word in words:
                 self.assertIn(word, defined, name)
+
+    def test_the_arguments(self):
+        trees = {file.name: tree for file, tree in told_trees()}
+        for name, words in LISTED.items():
+            found = {node.name: node for node in trees[name].body
+                     if isinstance(node, ast.FunctionDef)}
+            for word in words:
+                if word in ARGUMENTS:
+                    told = [argument.arg for argument in found[word].args.args]
+                    self.assertEqual(told, ARGUMENTS[word], word)
 
 
 if __name__ == "__main__":
